@@ -1,0 +1,1 @@
+"""By road behind it: a car follows a balloon, to be there when it lands."""
