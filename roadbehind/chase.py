@@ -6,6 +6,10 @@ BEGINS = 0
 ROAD = 1
 MAY = 2
 NEWS = 3
+FAR = 4
+WORST = 5
+UNKNOWN = 6
+KNOWN = 7
 
 
 class UnknownCall(ValueError):
@@ -35,4 +39,12 @@ def answer_of(chase, call, numbers):
         return [chase.may(numbers[0])]
     if call == NEWS:
         return [chase.news(numbers[0], numbers[1:])]
-    raise UnknownCall(f"call {call} is not built")
+    if call == FAR:
+        return [chase.far(numbers[0], numbers[1])]
+    if call == WORST:
+        return chase.worst()
+    if call == UNKNOWN:
+        return [chase.unknown()]
+    if call == KNOWN:
+        return [chase.known()]
+    raise UnknownCall(f"there is no call {call}")

@@ -1,9 +1,12 @@
 """What has been told of one chase: its places, its roads, where the balloon may land, its news.
 
-The methods begins, road, may and news answer a number. One below 0 is a refusal, and then all
-is as it was. Where several refusals fit, the first that the document tells is answered, so
-they are asked for in its order.
+The methods that bear a call's name answer a number, worst a list of numbers. A number below 0 is a
+refusal, and then all is as it was. Where several refusals fit, the first that the document tells
+is answered, so they are asked for in its order.
 """
+
+from roadbehind.drives import NO_DRIVE, shortest_drives
+from roadbehind.ways import Ways
 
 MOST_PLACES = 6
 MOST_ROADS = 12
@@ -62,3 +65,36 @@ class Chase:
             # The first news may come at any minute, and none is earlier than this.
             return 0
         return self.news_told[-1][0]
+
+    def far(self, place, other):
+        if place >= self.places or other >= self.places:
+            return -2
+        minutes = shortest_drives(self.places, self.roads)[place][other]
+        if minutes == NO_DRIVE:
+            return -6
+        return minutes
+
+    def worst(self):
+        if self.no_way_can_be():
+            return [-6]
+        return self.ways_with(self.news_told).best(self.car, 0, 0, self.landing_places)
+
+    def unknown(self):
+        if self.no_way_can_be():
+            return -6
+        return self.least_without_news(self.landing_places)
+
+    def known(self):
+        if self.no_way_can_be():
+            return -6
+        return max([self.least_without_news([place]) for place in self.landing_places])
+
+    def least_without_news(self, landing_places):
+        return self.ways_with([]).best(self.car, 0, 0, landing_places)[0]
+
+    def ways_with(self, news_told):
+        return Ways(shortest_drives(self.places, self.roads), self.landing, news_told)
+
+    def no_way_can_be(self):
+        # Roads lead either way: from wherever the car comes to, it comes to what it could come to at first.
+        return any([self.far(self.car, place) < 0 for place in self.landing_places])

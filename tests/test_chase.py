@@ -3,19 +3,11 @@
 import unittest
 
 from roadbehind.chase import UnknownCall, answers
-from tests.calls import MOST, begins, joined, may, may_number, news, numbers_answered, road
+from tests.calls import MOST, CallsTest, ReadOnlyList, begins, joined, may, may_number, news, road
 
 # For two places or more, and for one place; each call with what it answers.
 TWELVE_ROADS = [(road(0, 1, 5), count) for count in range(1, 13)]
 THREE_NEWS = [(news(5, 1), 1), (news(6, 1), 2), (news(7, 1), 3)]
-
-
-class CallsTest(unittest.TestCase):
-    def check(self, *calls_and_answers):
-        """Each is a call and the number it is to answer; all are handed in as one list."""
-        calls = [call for call, answer in calls_and_answers]
-        wanted = [answer for call, answer in calls_and_answers]
-        self.assertEqual(numbers_answered(self, *calls), wanted)
 
 
 class ListForm(unittest.TestCase):
@@ -53,9 +45,9 @@ class ListForm(unittest.TestCase):
         self.assertIs(type(given), list)
         self.assertEqual([type(number) for number in given], [int] * 10)
 
-    def test_a_call_that_is_not_built_is_not_passed_over(self):
+    def test_a_call_that_there_is_not_is_not_passed_over(self):
         with self.assertRaises(UnknownCall):
-            answers([5, 0, 0])
+            answers([8, 0, 0])
 
 
 class AtTheBeginning(CallsTest):
@@ -255,16 +247,6 @@ class News(CallsTest):
 
     def test_news_are_full_until_it_begins_once_more(self):
         self.check((begins(1, 0, 20), 0), *THREE_NEWS, (news(9, 1), -5), (begins(1, 0, 20), 0), *THREE_NEWS)
-
-
-class ReadOnlyList(list):
-    """A list that tells when it is changed, were it only for a while."""
-
-    def refuse(self, *told, **named):
-        raise AssertionError("the list handed in was changed")
-
-    append = clear = extend = insert = pop = remove = reverse = sort = refuse
-    __setitem__ = __delitem__ = __iadd__ = __imul__ = refuse
 
 
 class NothingElseChanges(unittest.TestCase):
